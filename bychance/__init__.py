@@ -1,0 +1,1 @@
+"""Claims held against by chance; the calls are in bychance.claims."""

@@ -1,0 +1,152 @@
+"""Claims held against by chance: ch_product and ch_value, as DOC.md tells them."""
+
+PRIME = 65521
+
+ARGUMENTS_REFUSED = -2
+CONTENT_REFUSED = -3
+
+MOST_SIDE = 64
+MOST_GATES = 64
+MOST_VARIABLES = 12
+MOST_DEGREE = 255
+MOST_DEGREE_IN_ONE = 15
+
+GATE_BYTES = 4
+VARIABLE = 0
+NUMBER = 1
+SUM = 2
+DIFFERENCE = 3
+PRODUCT = 4
+
+
+def all_numbers(values):
+    for value in values:
+        if not 0 <= value < PRIME:
+            return False
+    return True
+
+
+def times_column(k, matrix, column):
+    products = []
+    for row in range(k):
+        total = 0
+        for place in range(k):
+            total = (total + matrix[k * row + place] * column[place]) % PRIME
+        products.append(total)
+    return products
+
+
+def gates_of(code):
+    gates = []
+    for place in range(len(code) // GATE_BYTES):
+        start = GATE_BYTES * place
+        gates.append(code[start:start + GATE_BYTES])
+    return gates
+
+
+def number_of(gate):
+    return gate[2] + 256 * gate[3]
+
+
+def is_gate(n, gate, place):
+    kind = gate[0]
+    if kind == VARIABLE:
+        return gate[1] < n and gate[2] == 0 and gate[3] == 0
+    if kind == NUMBER:
+        return gate[1] == 0 and number_of(gate) < PRIME
+    if kind in (SUM, DIFFERENCE, PRODUCT):
+        return gate[1] < place and gate[2] < place and gate[3] == 0
+    return False
+
+
+def gate_degree(gate, counts, before):
+    kind = gate[0]
+    if kind == VARIABLE:
+        return counts[gate[1]]
+    if kind == NUMBER:
+        return 0
+    if kind == PRODUCT:
+        return before[gate[1]] + before[gate[2]]
+    return max(before[gate[1]], before[gate[2]])
+
+
+# counts says what each variable's own gate counts for: all 1 makes the degree,
+# a single 1 the degree in that variable.
+def gate_degrees(gates, counts):
+    degrees = []
+    for gate in gates:
+        degrees.append(gate_degree(gate, counts, degrees))
+    return degrees
+
+
+def count_all(n):
+    return [1] * n
+
+
+def count_one(n, variable):
+    return [1 if each == variable else 0 for each in range(n)]
+
+
+# With 12 variables the second bound keeps every degree to 180, so the first one
+# decides nothing by itself; it stands because the document names it.
+def degrees_hold(n, gates):
+    if max(gate_degrees(gates, count_all(n))) > MOST_DEGREE:
+        return False
+    for variable in range(n):
+        if max(gate_degrees(gates, count_one(n, variable))) > MOST_DEGREE_IN_ONE:
+            return False
+    return True
+
+
+# The degrees come last: they can only be told of gates that name gates before them.
+def is_circuit(n, gates):
+    for place in range(len(gates)):
+        if not is_gate(n, gates[place], place):
+            return False
+    return degrees_hold(n, gates)
+
+
+def gate_value(gate, x, before):
+    kind = gate[0]
+    if kind == VARIABLE:
+        return x[gate[1]]
+    if kind == NUMBER:
+        return number_of(gate)
+    first = before[gate[1]]
+    second = before[gate[2]]
+    if kind == SUM:
+        return (first + second) % PRIME
+    if kind == DIFFERENCE:
+        return (first - second) % PRIME
+    return (first * second) % PRIME
+
+
+def circuit_value(gates, x):
+    values = []
+    for gate in gates:
+        values.append(gate_value(gate, x, values))
+    return values[-1]
+
+
+def circuit_arguments_hold(n, gates):
+    return 1 <= n <= MOST_VARIABLES and 1 <= len(gates) <= MOST_GATES
+
+
+def ch_product(k, a, b, c, r):
+    if not 1 <= k <= MOST_SIDE:
+        return [ARGUMENTS_REFUSED]
+    for values in (a, b, c, r):
+        if not all_numbers(values):
+            return [CONTENT_REFUSED]
+    claimed = times_column(k, c, r)
+    found = times_column(k, a, times_column(k, b, r))
+    return [1 if found == claimed else 0]
+
+
+def ch_value(n, code, x):
+    gates = gates_of(code)
+    if not circuit_arguments_hold(n, gates):
+        return [ARGUMENTS_REFUSED]
+    if not (is_circuit(n, gates) and all_numbers(x)):
+        return [CONTENT_REFUSED]
+    return [circuit_value(gates, x)]
