@@ -1,4 +1,4 @@
-"""Claims held against by chance: ch_product and ch_value, as DOC.md tells them."""
+"""Claims held against by chance, as DOC.md tells them; each call answers a list of whole numbers."""
 
 PRIME = 65521
 
@@ -128,6 +128,20 @@ def circuit_value(gates, x):
     return values[-1]
 
 
+def bit_rows(length):
+    rows = [[]]
+    for place in range(length):
+        rows = [row + [0] for row in rows] + [row + [1] for row in rows]
+    return rows
+
+
+def total_over_bits(gates, start, behind):
+    total = 0
+    for row in bit_rows(behind):
+        total = (total + circuit_value(gates, start + row)) % PRIME
+    return total
+
+
 def circuit_arguments_hold(n, gates):
     return 1 <= n <= MOST_VARIABLES and 1 <= len(gates) <= MOST_GATES
 
@@ -150,3 +164,21 @@ def ch_value(n, code, x):
     if not (is_circuit(n, gates) and all_numbers(x)):
         return [CONTENT_REFUSED]
     return [circuit_value(gates, x)]
+
+
+def ch_degree(n, code):
+    gates = gates_of(code)
+    if not circuit_arguments_hold(n, gates):
+        return [ARGUMENTS_REFUSED]
+    if not is_circuit(n, gates):
+        return [CONTENT_REFUSED]
+    return [gate_degrees(gates, count_all(n))[-1]]
+
+
+def sc_total(n, code):
+    gates = gates_of(code)
+    if not circuit_arguments_hold(n, gates):
+        return [ARGUMENTS_REFUSED]
+    if not is_circuit(n, gates):
+        return [CONTENT_REFUSED]
+    return [total_over_bits(gates, [], n)]

@@ -3,38 +3,7 @@ import unittest
 from bychance.claims import ch_value, degrees_hold, gates_of
 from helper import HIGHEST, LOWEST, PRIME, Made
 from helper import add, code_of, less, number, power_gates, product_of_variables, times, variable
-
-
-def expanded(code, n):
-    """The last gate as a polynomial, exponents to factors: another way than gate by gate at x."""
-    made = []
-    for at in range(0, len(code), 4):
-        kind, a, b, top = code[at:at + 4]
-        terms = {}
-        if kind == 0:
-            terms[tuple(1 if v == a else 0 for v in range(n))] = 1
-        elif kind == 1:
-            terms[(0,) * n] = b + 256 * top
-        elif kind in (2, 3):
-            terms.update(made[a])
-            for exponents, factor in made[b].items():
-                terms[exponents] = terms.get(exponents, 0) + (factor if kind == 2 else -factor)
-        else:
-            for left, first in made[a].items():
-                for right, second in made[b].items():
-                    exponents = tuple(p + q for p, q in zip(left, right))
-                    terms[exponents] = terms.get(exponents, 0) + first * second
-        made.append(terms)
-    return made[-1]
-
-
-def value_of_terms(terms, x):
-    total = 0
-    for exponents, factor in terms.items():
-        for base, exponent in zip(x, exponents):
-            factor *= base ** exponent
-        total += factor
-    return total % PRIME
+from helper import expanded, made_circuit, value_of_terms
 
 
 class Ordinary(unittest.TestCase):
@@ -93,17 +62,8 @@ class Ordinary(unittest.TestCase):
         answered = 0
         for _ in range(300):
             n = 1 + made.below(3)
-            gates = [variable(made.below(n)), number(made.below(PRIME))]
-            for place in range(2, 3 + made.below(8)):
-                kind = made.below(5)
-                if kind == 0:
-                    gates.append(variable(made.below(n)))
-                elif kind == 1:
-                    gates.append(number(made.below(PRIME)))
-                else:
-                    gates.append([kind, made.below(place), made.below(place), 0])
+            code = made_circuit(made, n)
             x = made.numbers(n)
-            code = code_of(*gates)
             answer = ch_value(n, code, x)
             if answer != [-3]:
                 answered += 1

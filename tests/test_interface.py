@@ -37,7 +37,12 @@ def is_docstring(tree, node):
 
 class Interface(unittest.TestCase):
     def test_names_and_arguments(self):
-        expected = {"ch_product": ["k", "a", "b", "c", "r"], "ch_value": ["n", "code", "x"]}
+        expected = {
+            "ch_product": ["k", "a", "b", "c", "r"],
+            "ch_value": ["n", "code", "x"],
+            "ch_degree": ["n", "code"],
+            "sc_total": ["n", "code"],
+        }
         for name, arguments in expected.items():
             function = getattr(bychance.claims, name)
             self.assertEqual(list(inspect.signature(function).parameters), arguments)
@@ -45,6 +50,8 @@ class Interface(unittest.TestCase):
     def test_arguments_by_name(self):
         self.assertEqual(bychance.claims.ch_product(k=1, a=[2], b=[3], c=[6], r=[1]), [1])
         self.assertEqual(bychance.claims.ch_value(n=1, code=[0, 0, 0, 0], x=[4]), [4])
+        self.assertEqual(bychance.claims.ch_degree(n=1, code=[0, 0, 0, 0]), [1])
+        self.assertEqual(bychance.claims.sc_total(n=1, code=[0, 0, 0, 0]), [1])
 
     def test_prints_nothing(self):
         out = io.StringIO()
@@ -53,6 +60,10 @@ class Interface(unittest.TestCase):
             bychance.claims.ch_product(0, [], [], [], [])
             bychance.claims.ch_value(1, [0, 0, 0, 0], [4])
             bychance.claims.ch_value(1, [9, 0, 0, 0], [4])
+            bychance.claims.ch_degree(1, [0, 0, 0, 0])
+            bychance.claims.ch_degree(0, [9, 0, 0, 0])
+            bychance.claims.sc_total(1, [0, 0, 0, 0])
+            bychance.claims.sc_total(1, [9, 0, 0, 0])
         self.assertEqual(out.getvalue(), "")
 
 
