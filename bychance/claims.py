@@ -11,6 +11,8 @@ MOST_VARIABLES = 12
 MOST_DEGREE = 255
 MOST_DEGREE_IN_ONE = 15
 
+ROW_NUMBERS = 16
+
 GATE_BYTES = 4
 VARIABLE = 0
 NUMBER = 1
@@ -98,6 +100,10 @@ def degrees_hold(n, gates):
     return True
 
 
+def greatest_last_degree(n, gates):
+    return max([gate_degrees(gates, count_one(n, variable))[-1] for variable in range(n)])
+
+
 # The degrees come last: they can only be told of gates that name gates before them.
 def is_circuit(n, gates):
     for place in range(len(gates)):
@@ -182,3 +188,23 @@ def sc_total(n, code):
     if not is_circuit(n, gates):
         return [CONTENT_REFUSED]
     return [total_over_bits(gates, [], n)]
+
+
+def sc_each(n, code):
+    gates = gates_of(code)
+    if not circuit_arguments_hold(n, gates):
+        return [ARGUMENTS_REFUSED]
+    if not is_circuit(n, gates):
+        return [CONTENT_REFUSED]
+    return [greatest_last_degree(n, gates)]
+
+
+def sc_message(n, i, code, r):
+    gates = gates_of(code)
+    if not (circuit_arguments_hold(n, gates) and 0 <= i < n):
+        return [ARGUMENTS_REFUSED]
+    if not (is_circuit(n, gates) and all_numbers(r)):
+        return [CONTENT_REFUSED]
+    count = greatest_last_degree(n, gates) + 1
+    totals = [total_over_bits(gates, r + [value], n - i - 1) for value in range(count)]
+    return [count] + totals + [0] * (ROW_NUMBERS - count)

@@ -112,6 +112,20 @@ def value_of_terms(terms, x):
     return total % PRIME
 
 
+def message_of_terms(terms, d, r):
+    """The sums for the variable behind r being 0 to d, term by term: a variable that is summed over
+    leaves a term once (at 1) where the term names it, and twice (at 0 too) where it doesn't."""
+    sums = []
+    for value in range(d + 1):
+        total = 0
+        for exponents, factor in terms.items():
+            for base, exponent in zip([*r, value], exponents):
+                factor *= base ** exponent
+            total += factor * 2 ** exponents[len(r) + 1:].count(0)
+        sums.append(total % PRIME)
+    return sums
+
+
 def most_terms(code, n):
     """Expanded with sums for differences and 1 for each number, so that nothing falls away.
 

@@ -42,6 +42,8 @@ class Interface(unittest.TestCase):
             "ch_value": ["n", "code", "x"],
             "ch_degree": ["n", "code"],
             "sc_total": ["n", "code"],
+            "sc_each": ["n", "code"],
+            "sc_message": ["n", "i", "code", "r"],
         }
         for name, arguments in expected.items():
             function = getattr(bychance.claims, name)
@@ -52,6 +54,9 @@ class Interface(unittest.TestCase):
         self.assertEqual(bychance.claims.ch_value(n=1, code=[0, 0, 0, 0], x=[4]), [4])
         self.assertEqual(bychance.claims.ch_degree(n=1, code=[0, 0, 0, 0]), [1])
         self.assertEqual(bychance.claims.sc_total(n=1, code=[0, 0, 0, 0]), [1])
+        self.assertEqual(bychance.claims.sc_each(n=1, code=[0, 0, 0, 0]), [1])
+        self.assertEqual(
+            bychance.claims.sc_message(n=2, i=1, code=[0, 0, 0, 0], r=[4]), [2, 4, 4] + [0] * 14)
 
     def test_prints_nothing(self):
         out = io.StringIO()
@@ -64,6 +69,10 @@ class Interface(unittest.TestCase):
             bychance.claims.ch_degree(0, [9, 0, 0, 0])
             bychance.claims.sc_total(1, [0, 0, 0, 0])
             bychance.claims.sc_total(1, [9, 0, 0, 0])
+            bychance.claims.sc_each(1, [0, 0, 0, 0])
+            bychance.claims.sc_each(0, [9, 0, 0, 0])
+            bychance.claims.sc_message(2, 1, [0, 0, 0, 0], [4])
+            bychance.claims.sc_message(2, 2, [0, 0, 0, 0], [])
         self.assertEqual(out.getvalue(), "")
 
 
