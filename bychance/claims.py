@@ -10,6 +10,7 @@ MOST_GATES = 64
 MOST_VARIABLES = 12
 MOST_DEGREE = 255
 MOST_DEGREE_IN_ONE = 15
+MOST_BITS = 10
 
 ROW_NUMBERS = 16
 
@@ -148,6 +149,56 @@ def total_over_bits(gates, start, behind):
     return total
 
 
+def looked_at(n, count, rows):
+    claims = []
+    for variable in range(n):
+        start = ROW_NUMBERS * variable
+        claims.append(rows[start:start + count])
+    return claims
+
+
+# Newton's form: the differences at 0, each times how many ways there are to choose so
+# many of x. These ways are whole numbers, so that nothing is divided modulo the prime.
+def polynomial_value(values, x):
+    total = 0
+    ways = 1
+    differences = values
+    for step in range(len(values)):
+        total = (total + ways * differences[0]) % PRIME
+        ways = ways * (x - step) // (step + 1)
+        differences = [differences[place] - differences[place - 1] for place in range(1, len(differences))]
+    return total
+
+
+# A claim of a single value is a polynomial too, so its value at 1 isn't taken out of the row.
+def claims_hold(total, claims, r, value):
+    due = total
+    for variable in range(len(claims)):
+        claim = claims[variable]
+        if (polynomial_value(claim, 0) + polynomial_value(claim, 1)) % PRIME != due:
+            return False
+        due = polynomial_value(claim, r[variable])
+    return due == value
+
+
+def all_bits(values):
+    for value in values:
+        if value not in (0, 1):
+            return False
+    return True
+
+
+def odd_counts(size):
+    odd = [0]
+    for number in range(1, size):
+        odd.append(odd[number // 2] ^ (number % 2))
+    return odd
+
+
+def places_apart(table, odd, chosen):
+    return sum([table[place] ^ odd[place & chosen] for place in range(len(table))])
+
+
 def circuit_arguments_hold(n, gates):
     return 1 <= n <= MOST_VARIABLES and 1 <= len(gates) <= MOST_GATES
 
@@ -208,3 +259,25 @@ def sc_message(n, i, code, r):
     count = greatest_last_degree(n, gates) + 1
     totals = [total_over_bits(gates, r + [value], n - i - 1) for value in range(count)]
     return [count] + totals + [0] * (ROW_NUMBERS - count)
+
+
+def sc_check(n, total, code, rows, r):
+    gates = gates_of(code)
+    if not (circuit_arguments_hold(n, gates) and 0 <= total < PRIME):
+        return [ARGUMENTS_REFUSED]
+    if not (is_circuit(n, gates) and all_numbers(r)):
+        return [CONTENT_REFUSED]
+    claims = looked_at(n, greatest_last_degree(n, gates) + 1, rows)
+    for claim in claims:
+        if not all_numbers(claim):
+            return [CONTENT_REFUSED]
+    return [1 if claims_hold(total, claims, r, circuit_value(gates, r)) else 0]
+
+
+def bl_far(n, table):
+    if not 1 <= n <= MOST_BITS:
+        return [ARGUMENTS_REFUSED]
+    if not all_bits(table):
+        return [CONTENT_REFUSED]
+    odd = odd_counts(len(table))
+    return [min([places_apart(table, odd, chosen) for chosen in range(len(table))])]

@@ -193,3 +193,8 @@ def check_call(test, call, arguments, answer):
         # The caller may change what is given back: that must not show in another answer.
         given.append(7)
     test.assertEqual(call(*[Fixed(each) if isinstance(each, list) else each for each in arguments]), answer)
+
+
+def sum_of_bits(n, chosen):
+    """The table, for n bits, that says whether a number's bits in common with the chosen one are odd in number."""
+    return [bin(place & chosen).count("1") % 2 for place in range(2 ** n)]

@@ -44,6 +44,8 @@ class Interface(unittest.TestCase):
             "sc_total": ["n", "code"],
             "sc_each": ["n", "code"],
             "sc_message": ["n", "i", "code", "r"],
+            "sc_check": ["n", "total", "code", "rows", "r"],
+            "bl_far": ["n", "table"],
         }
         for name, arguments in expected.items():
             function = getattr(bychance.claims, name)
@@ -57,6 +59,9 @@ class Interface(unittest.TestCase):
         self.assertEqual(bychance.claims.sc_each(n=1, code=[0, 0, 0, 0]), [1])
         self.assertEqual(
             bychance.claims.sc_message(n=2, i=1, code=[0, 0, 0, 0], r=[4]), [2, 4, 4] + [0] * 14)
+        self.assertEqual(
+            bychance.claims.sc_check(n=1, total=1, code=[0, 0, 0, 0], rows=[0, 1] + [0] * 14, r=[4]), [1])
+        self.assertEqual(bychance.claims.bl_far(n=1, table=[1, 1]), [1])
 
     def test_prints_nothing(self):
         out = io.StringIO()
@@ -73,6 +78,10 @@ class Interface(unittest.TestCase):
             bychance.claims.sc_each(0, [9, 0, 0, 0])
             bychance.claims.sc_message(2, 1, [0, 0, 0, 0], [4])
             bychance.claims.sc_message(2, 2, [0, 0, 0, 0], [])
+            bychance.claims.sc_check(1, 1, [0, 0, 0, 0], [0, 1] + [0] * 14, [4])
+            bychance.claims.sc_check(1, -1, [0, 0, 0, 0], [0, 1] + [0] * 14, [4])
+            bychance.claims.bl_far(1, [1, 1])
+            bychance.claims.bl_far(1, [1, 2])
         self.assertEqual(out.getvalue(), "")
 
 
