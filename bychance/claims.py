@@ -199,6 +199,10 @@ def places_apart(table, odd, chosen):
     return sum([table[place] ^ odd[place & chosen] for place in range(len(table))])
 
 
+def pairs_apart(table, x):
+    return sum([table[x] ^ table[y] ^ table[x ^ y] for y in range(len(table))])
+
+
 def circuit_arguments_hold(n, gates):
     return 1 <= n <= MOST_VARIABLES and 1 <= len(gates) <= MOST_GATES
 
@@ -281,3 +285,11 @@ def bl_far(n, table):
         return [CONTENT_REFUSED]
     odd = odd_counts(len(table))
     return [min([places_apart(table, odd, chosen) for chosen in range(len(table))])]
+
+
+def bl_rejects(n, table):
+    if not 1 <= n <= MOST_BITS:
+        return [ARGUMENTS_REFUSED]
+    if not all_bits(table):
+        return [CONTENT_REFUSED]
+    return [sum([pairs_apart(table, x) for x in range(len(table))])]

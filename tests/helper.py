@@ -198,3 +198,31 @@ def check_call(test, call, arguments, answer):
 def sum_of_bits(n, chosen):
     """The table, for n bits, that says whether a number's bits in common with the chosen one are odd in number."""
     return [bin(place & chosen).count("1") % 2 for place in range(2 ** n)]
+
+
+def agreeing_less_differing(table):
+    """For each sum of bits, how many more places agree with it than differ: Hadamard's transform."""
+    found = [1 - 2 * bit for bit in table]
+    half = 1
+    while half < len(table):
+        for place in range(len(table)):
+            if not place & half:
+                low, high = found[place], found[place + half]
+                found[place], found[place + half] = low + high, low - high
+        half *= 2
+    return found
+
+
+def check_table_refusals(test, call):
+    """What bl_far and bl_rejects refuse alike."""
+    for n in (0, 11, -1, -10, 12, 13, 64, HIGHEST, LOWEST):
+        test.assertEqual(call(n, []), [-2])
+        # The interface hands in no table with such an n; -2 goes ahead all the same.
+        test.assertEqual(call(n, [2, 255]), [-2])
+    for value in (2, 3, 128, 254, 255):
+        for n in (1, 3, 10):
+            for place in (0, 1, 2 ** n // 2, 2 ** n - 1):
+                table = [0] * 2 ** n
+                table[place] = value
+                test.assertEqual(call(n, table), [-3])
+            test.assertEqual(call(n, [value] * 2 ** n), [-3])

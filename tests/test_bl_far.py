@@ -1,21 +1,11 @@
 import unittest
 
 from bychance.claims import bl_far
-from helper import HIGHEST, LOWEST, Made
-from helper import check_call, sum_of_bits
+from helper import Made, agreeing_less_differing, check_call, check_table_refusals, sum_of_bits
 
 
 def far_by_transform(table):
-    """By Hadamard's transform: how many more places agree with each sum of bits than differ from it."""
-    agreeing = [1 - 2 * bit for bit in table]
-    half = 1
-    while half < len(table):
-        for place in range(len(table)):
-            if not place & half:
-                low, high = agreeing[place], agreeing[place + half]
-                agreeing[place], agreeing[place + half] = low + high, low - high
-        half *= 2
-    return (len(table) - max(agreeing)) // 2
+    return (len(table) - max(agreeing_less_differing(table))) // 2
 
 
 class Ordinary(unittest.TestCase):
@@ -113,23 +103,8 @@ class Edges(unittest.TestCase):
 
 
 class Refused(unittest.TestCase):
-    def test_n_out_of_its_range(self):
-        for n in (0, 11, -1, -10, 12, 13, 64, HIGHEST, LOWEST):
-            self.assertEqual(bl_far(n, []), [-2])
-
-    def test_a_byte_that_is_not_0_or_1(self):
-        for value in (2, 3, 128, 254, 255):
-            for n in (1, 3, 10):
-                for place in (0, 1, 2 ** n // 2, 2 ** n - 1):
-                    table = [0] * 2 ** n
-                    table[place] = value
-                    self.assertEqual(bl_far(n, table), [-3])
-                self.assertEqual(bl_far(n, [value] * 2 ** n), [-3])
-
-    def test_both_at_once(self):
-        # The interface hands in no table with such an n; -2 goes ahead all the same.
-        for n in (0, 11, -1):
-            self.assertEqual(bl_far(n, [2, 255]), [-2])
+    def test_n_out_of_its_range_and_bytes_that_are_not_0_or_1(self):
+        check_table_refusals(self, bl_far)
 
 
 class HandedIn(unittest.TestCase):

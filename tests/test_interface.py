@@ -46,6 +46,7 @@ class Interface(unittest.TestCase):
             "sc_message": ["n", "i", "code", "r"],
             "sc_check": ["n", "total", "code", "rows", "r"],
             "bl_far": ["n", "table"],
+            "bl_rejects": ["n", "table"],
         }
         for name, arguments in expected.items():
             function = getattr(bychance.claims, name)
@@ -62,6 +63,7 @@ class Interface(unittest.TestCase):
         self.assertEqual(
             bychance.claims.sc_check(n=1, total=1, code=[0, 0, 0, 0], rows=[0, 1] + [0] * 14, r=[4]), [1])
         self.assertEqual(bychance.claims.bl_far(n=1, table=[1, 1]), [1])
+        self.assertEqual(bychance.claims.bl_rejects(n=1, table=[1, 1]), [4])
 
     def test_prints_nothing(self):
         out = io.StringIO()
@@ -82,6 +84,8 @@ class Interface(unittest.TestCase):
             bychance.claims.sc_check(1, -1, [0, 0, 0, 0], [0, 1] + [0] * 14, [4])
             bychance.claims.bl_far(1, [1, 1])
             bychance.claims.bl_far(1, [1, 2])
+            bychance.claims.bl_rejects(1, [1, 1])
+            bychance.claims.bl_rejects(1, [1, 2])
         self.assertEqual(out.getvalue(), "")
 
 
